@@ -1,0 +1,1 @@
+"""Ballots with orders: pairs, strongest paths, seats by quotas and transfers."""
