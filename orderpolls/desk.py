@@ -1,8 +1,11 @@
 """The desk: answers a line of calls on one new state."""
 
 from orderpolls.pairs import count_firsts, count_preferring, count_voters, find_champion, find_least_set
-from orderpolls.poll import Ballot, Poll, can_begin, has_ballot, has_candidate, is_full, takes_order, takes_voters
+from orderpolls.paths import find_strengths, find_unbeaten, rank_candidates
+from orderpolls.poll import Ballot, Poll
+from orderpolls.poll import can_begin, has_ballot, has_both, is_full, takes_order, takes_seats, takes_voters
 from orderpolls.reader import Reader
+from orderpolls.seating import describe_turns, find_seated, find_unseated, take_turns
 
 BAD_VALUE = -1
 NOT_THERE = -4
@@ -67,7 +70,7 @@ def answer_firsts(desk, call):
 def answer_pair(desk, call):
     a = call.wholes[0]
     b = call.wholes[1]
-    if not has_candidate(desk.poll, a) or not has_candidate(desk.poll, b):
+    if not has_both(desk.poll, a, b):
         return [NOT_THERE]
     return [count_preferring(desk.poll, a, b)]
 
@@ -84,6 +87,49 @@ def answer_top(desk, call):
     return with_list(len(members), members)
 
 
+def answer_path(desk, call):
+    a = call.wholes[0]
+    b = call.wholes[1]
+    if not has_both(desk.poll, a, b):
+        return [NOT_THERE]
+    return [find_strengths(desk.poll)[a][b]]
+
+
+def answer_ranked(desk, call):
+    ranking = rank_candidates(desk.poll)
+    return with_list(len(ranking), ranking)
+
+
+def answer_unbeaten(desk, call):
+    members = find_unbeaten(desk.poll)
+    return with_list(len(members), members)
+
+
+def answer_seats(desk, call):
+    seats = call.wholes[0]
+    if not takes_seats(desk.poll, seats):
+        return [BAD_VALUE]
+    return with_list(seats, find_seated(take_turns(desk.poll, seats)))
+
+
+def answer_turns(desk, call):
+    seats = call.wholes[0]
+    if not takes_seats(desk.poll, seats):
+        return [BAD_VALUE]
+    turns = take_turns(desk.poll, seats)
+    return with_list(len(turns), describe_turns(turns))
+
+
+def answer_runoff(desk, call):
+    unseated = find_unseated(take_turns(desk.poll, 1))
+    return with_list(len(unseated), unseated)
+
+
+def answer_count(desk, call):
+    poll = desk.poll
+    return with_list(poll.candidates, [len(poll.ballots), count_voters(poll)])
+
+
 ANSWERS = {
     0: answer_begin,
     1: answer_vote,
@@ -93,6 +139,13 @@ ANSWERS = {
     5: answer_pair,
     6: answer_champion,
     7: answer_top,
+    8: answer_path,
+    9: answer_ranked,
+    10: answer_unbeaten,
+    11: answer_seats,
+    12: answer_turns,
+    13: answer_runoff,
+    14: answer_count,
 }
 
 

@@ -30,6 +30,10 @@ def has_candidate(poll, candidate):
     return 0 <= candidate < poll.candidates
 
 
+def has_both(poll, a, b):
+    return has_candidate(poll, a) and has_candidate(poll, b)
+
+
 def has_ballot(poll, place):
     return 0 <= place < len(poll.ballots)
 
@@ -45,3 +49,8 @@ def takes_voters(voters):
 def takes_order(poll, order):
     none_twice = len(set(order)) == len(order)
     return none_twice and all([has_candidate(poll, candidate) for candidate in order])
+
+
+def takes_seats(poll, seats):
+    """Whether so many seats may be filled: at least one, and no more than there are candidates."""
+    return 1 <= seats <= poll.candidates

@@ -1,8 +1,8 @@
-"""begin, vote, drop and ballot."""
+"""begin, vote, drop, ballot and count."""
 
 import unittest
 
-from tests.lines import MOST, ask, ask_last, ballot, begin, drop, everything, firsts, pair, top, vote
+from tests.lines import MOST, ask, ask_last, ballot, begin, count, drop, everything, firsts, pair, top, vote
 
 
 class BeginTest(unittest.TestCase):
@@ -148,6 +148,28 @@ class BallotTest(unittest.TestCase):
         self.assertEqual(ask_last(begin(2), ballot(0)), [-4])
         for i in (1, 2, 64, MOST):
             self.assertEqual(ask_last(begin(2), vote(1, 0), ballot(i)), [-4])
+
+
+class CountTest(unittest.TestCase):
+    def test_without_ballots(self):
+        for n in range(2, 9):
+            self.assertEqual(ask_last(begin(n), count()), [n, 2, 0, 0])
+
+    def test_tells_candidates_ballots_and_voters(self):
+        told = ask(begin(3), vote(4, 2, 0), count(), vote(1, 1), count(), vote(9), count())
+        self.assertEqual(told[2::2], [[3, 2, 1, 4], [3, 2, 2, 5], [3, 2, 3, 14]])
+
+    def test_as_many_as_there_may_be(self):
+        told = ask(begin(8), *[vote(1000000, 1)] * 64, count(), vote(1, 0), count())
+        self.assertEqual(told[65:], [[8, 2, 64, 64000000], [-6], [8, 2, 64, 64000000]])
+
+    def test_after_drop(self):
+        told = ask(begin(2), vote(4, 0), vote(1, 1), drop(0), count(), drop(1), count(), drop(0), count())
+        self.assertEqual(told[3:], [[1], [2, 2, 1, 1], [-4], [2, 2, 1, 1], [0], [2, 2, 0, 0]])
+
+    def test_after_another_begin(self):
+        told = ask(begin(2), vote(4, 0), begin(9), count(), begin(5), count())
+        self.assertEqual(told[2:], [[-1], [2, 2, 1, 4], [5], [5, 2, 0, 0]])
 
 
 if __name__ == "__main__":

@@ -27,6 +27,8 @@ METHODS = (
     "split splitlines startswith strip update upper values zfill bit_length"
 ).split()
 
+VALUES = "count index title find get join lower upper split strip copy add".split()
+
 WORDS = re.compile(
     r"\b(type|typing|typing_extensions|enum|Enum|IntEnum|StrEnum|Flag|IntFlag|Generic|Protocol|ABC|ABCMeta|namedtuple"
     r"|NamedTuple|TypedDict|TYPE_CHECKING|abstractmethod)\b|dataclass|overload|contextmanager"
@@ -117,6 +119,14 @@ class FormTest(unittest.TestCase):
         for place, node in self.each_node(ast.Name):
             if node.id in dir(builtins):
                 self.assertIn(node.id, ALLOWED, place)
+
+    def test_values_of_objects_are_called_like_no_method(self):
+        own = {inner.name for place, node in self.each_node(ast.ClassDef) for inner in node.body[1:]}
+        taken = {name for kind in (str, int, list, tuple, dict, set, frozenset, bytes) for name in dir(kind)}
+        for place, node in self.each_node(ast.Attribute):
+            if isinstance(node.ctx, ast.Store):
+                self.assertNotIn(node.attr, own, place)
+                self.assertNotIn(node.attr, taken.difference(VALUES), place)
 
     def test_methods_called_are_listed_or_the_packages_own(self):
         own = {inner.name for place, node in self.each_node(ast.ClassDef) for inner in node.body[1:]}
